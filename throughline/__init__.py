@@ -1,0 +1,1 @@
+"""Throughline: streams over a network that loses, repeats, delays and reorders."""

@@ -1,0 +1,1 @@
+"""Hosts and their options."""

@@ -1,0 +1,1 @@
+"""Octets, segments and their written form."""
