@@ -244,6 +244,8 @@ class DecodingTest(unittest.TestCase):
         self.refuse("no port", written([(1, 0)]))
         self.refuse("no port", written([(3, 0)]))
         self.refuse("no port", written([(1, 0), (3, 0)]))
+        self.refuse("no port", written([(1, 0), (2, 9)]))
+        self.refuse("no port", written([(0, 9), (3, 0), (4, 9)]))
         for header in ([(0, 1), (1, 0)], [(2, 1), (3, 0)]):
             decode(0, 0, written(header))
 

@@ -81,7 +81,7 @@ class DamagedSegment(ThroughlineError):
     """Octets that are refused as a segment, with the reason."""
 
     def __init__(self, reason):
-        super().__init__(reason)
+        super().__init__(f"refused: {reason}")
         self.reason = reason
 
 

@@ -1,0 +1,94 @@
+"""The names, the arguments and the places of the interface."""
+
+import importlib
+import inspect
+import unittest
+
+FUNCTIONS = {
+    "throughline.wire.octets": ["write_number(number, size)", "read_number(octets)", "to_hex(octets)",
+                                "from_hex(text)"],
+    "throughline.wire.checksum": ["octet_sum(sender, target, octets)", "is_intact(sender, target, octets)",
+                                  "checksum(sender, target, octets)"],
+    "throughline.wire.options": ["fitted(segment)", "write_options(segment)", "read_options(octets)"],
+    "throughline.wire.encoding": ["encode(sender, target, segment)", "decode(sender, target, octets)"],
+    "throughline.offsets.circle": ["wrap(first, offset)", "unwrap(first, near, number)"],
+    "throughline.offsets.ranges": ["add_range(ranges, start, stop)", "cut_below(ranges, limit)",
+                                   "contains(ranges, offset)", "count_inside(ranges, start, stop)", "total(ranges)",
+                                   "first_free(ranges, start)", "free_stop(ranges, start, stop)",
+                                   "loss_edge(ranges, amount)"],
+    "throughline.pace.round_trip": ["waits(timeout, count, *, most)"],
+    "throughline.pace.deadlines": ["is_due(deadline, now)", "earliest(deadlines)"],
+}
+# For each class: its parameters, its methods and its properties.
+CLASSES = {
+    "throughline.wire.segment.Segment": (
+        "(source, target, *, seq, count, echo=None, ack=None, syn=False, fin=False, reset=False, marked=False, "
+        "cut=False, window=0, mss=None, scale=None, ranges_known=False, ranges=(), stamp=None, data=())",
+        ["__eq__(other)"], ["size"]),
+    "throughline.host.options.Options": (
+        "(*, mss, room, life, pace, tries, min_rto, max_rto, ack_delay=0, keep_alive=0, nagle=False, control='reno')",
+        ["__eq__(other)"], ["patience", "shift", "resting"]),
+    "throughline.offsets.sets.OffsetSet": (
+        "(ranges=())",
+        ["include(start, stop)", "discard_below(limit)", "count_between(start, stop)", "first_free(start)",
+         "free_end(start, stop)", "loss_edge(amount)", "__iter__()", "__contains__(offset)", "__eq__(other)"],
+        ["total"]),
+    "throughline.offsets.piece.Piece": (
+        "(start, *, data=(), syn=False, fin=False, reset=False, ack=None, window=0, ranges=(), marked=False, "
+        "cut=False, stamp=None)",
+        ["__eq__(other)"], ["size", "stop", "first_octet"]),
+    "throughline.sending.sender.Sender": (
+        "(room)",
+        ["write(octets)", "finish()", "piece(start, size)", "mark_sent(piece)", "pipe(mss)",
+         "next_piece(*, cwnd, mss, allow, nagle=False)", "first_piece(mss)",
+         "acknowledge(ack, edge, ranges, *, empty, mss)", "time_out()"],
+        ["flight", "unsent", "all_done", "free", "sacked"]),
+    "throughline.receiving.receiver.Receiver": (
+        "(room)",
+        ["arrive(piece)", "read(count)", "advertise(mss)", "would_move(mss)", "held_ranges()"],
+        ["ready", "end_taken", "at_end", "holds", "permitted"]),
+    "throughline.pace.round_trip.RoundTrip": (
+        "(least, most)", ["sample(trip)", "back_off()", "fork()"], ["round_ticks"]),
+}
+
+
+def parameters(function, *, without_first=False):
+    found = list(inspect.signature(function).parameters.values())
+    return str(inspect.Signature(found[1:] if without_first else found))
+
+
+class InterfaceTest(unittest.TestCase):
+    def test_functions(self):
+        for place, lines in FUNCTIONS.items():
+            module = importlib.import_module(place)
+            for line in lines:
+                with self.subTest(place, line=line):
+                    name = line.split("(")[0]
+                    function = getattr(module, name)
+                    self.assertEqual(name + parameters(function), line)
+                    self.assertEqual(function.__module__, place)
+
+    def test_classes(self):
+        for path, (made_with, methods, properties) in CLASSES.items():
+            place, _, name = path.rpartition(".")
+            kind = getattr(importlib.import_module(place), name)
+            with self.subTest(path):
+                self.assertEqual(kind.__module__, place)
+                self.assertEqual(parameters(kind.__init__, without_first=True), made_with)
+            for line in methods:
+                with self.subTest(path, line=line):
+                    method = vars(kind)[line.split("(")[0]]
+                    if line.startswith("__"):
+                        continue
+                    self.assertEqual(line.split("(")[0] + parameters(method, without_first=True), line)
+            for word in properties:
+                with self.subTest(path, word=word):
+                    self.assertIsInstance(vars(kind)[word], property)
+
+    def test_the_waits_are_a_generator(self):
+        module = importlib.import_module("throughline.pace.round_trip")
+        self.assertTrue(inspect.isgeneratorfunction(module.waits))
+
+
+if __name__ == "__main__":
+    unittest.main()

@@ -1,0 +1,1 @@
+"""Offsets, their wire numbers, sets of offsets, and pieces."""

@@ -1,0 +1,1 @@
+"""Round trips, waits and deadlines."""

@@ -1,0 +1,1 @@
+"""The end of a direction that reads."""
