@@ -18,6 +18,10 @@ FUNCTIONS = {
                                    "loss_edge(ranges, amount)"],
     "throughline.pace.round_trip": ["waits(timeout, count, *, most)"],
     "throughline.pace.deadlines": ["is_due(deadline, now)", "earliest(deadlines)"],
+    "throughline.pace.roots": ["cube_root(number)"],
+    "throughline.pace.cubic": ["curve(mss, origin, turning, at)", "turning_time(mss, depth)"],
+    "throughline.endpoint.phases": ["open_phase(*, finished, answered, theirs)",
+                                    "next_phase(phase, *, opened, finished, answered, theirs)"],
 }
 # For each class: its parameters, its methods and its properties.
 CLASSES = {
@@ -49,6 +53,23 @@ CLASSES = {
         ["ready", "end_taken", "at_end", "holds", "permitted"]),
     "throughline.pace.round_trip.RoundTrip": (
         "(least, most)", ["sample(trip)", "back_off()", "fork()"], ["round_ticks"]),
+    "throughline.pace.control.Control": (
+        "(mss)",
+        ["acknowledge(mss, now, octets, *, flight, recovering)", "lose(mss, *, flight)", "time_out(mss, *, flight)",
+         "mark(mss, now, *, flight, length)"],
+        []),
+    "throughline.pace.reno.Reno": ("(mss)", ["fork()"], []),
+    "throughline.pace.cubic.Cubic": ("(mss)", ["fork()"], []),
+    "throughline.endpoint.endpoint.Endpoint": (
+        "(options, now)",
+        ["answering(options, now, piece, *, mss, selective)", "write(octets)", "finish()", "read(count)", "abort()",
+         "arrive(piece, now, *, marked=False, agreed=None)", "tick(now)", "output(now)"],
+        ["has_ended", "is_open", "needs_answer", "flight", "timeout", "patience"]),
+    "throughline.host.packet.Packet": (
+        "(sender, target, octets, *, marked=False)", ["with_mark()", "__eq__(other)"], []),
+    "throughline.host.socket.Socket": (
+        "(count, port, peer, peer_port, endpoint, *, listened=False)",
+        ["is_for(segment, sender)", "learn(segment)", "to_segment(piece)", "to_piece(segment)"], ["first"]),
 }
 
 
@@ -80,10 +101,15 @@ class InterfaceTest(unittest.TestCase):
                     method = vars(kind)[line.split("(")[0]]
                     if line.startswith("__"):
                         continue
+                    method = getattr(method, "__func__", method)
                     self.assertEqual(line.split("(")[0] + parameters(method, without_first=True), line)
             for word in properties:
                 with self.subTest(path, word=word):
                     self.assertIsInstance(vars(kind)[word], property)
+
+    def test_answering_is_a_class_method(self):
+        kind = importlib.import_module("throughline.endpoint.endpoint").Endpoint
+        self.assertIsInstance(vars(kind)["answering"], classmethod)
 
     def test_the_waits_are_a_generator(self):
         module = importlib.import_module("throughline.pace.round_trip")

@@ -39,6 +39,12 @@ class Options:
     def resting(self):
         return self.life + self.patience
 
+    def fork(self):
+        """Returns equal options of their own."""
+        return Options(mss=self.mss, room=self.room, life=self.life, pace=self.pace, tries=self.tries,
+                       min_rto=self.min_rto, max_rto=self.max_rto, ack_delay=self.ack_delay,
+                       keep_alive=self.keep_alive, nagle=self.nagle, control=self.control)
+
     def __eq__(self, other):
         if not isinstance(other, Options):
             return False

@@ -30,6 +30,12 @@ class OffsetSet:
     def loss_edge(self, amount):
         return loss_edge(self._ranges, amount)
 
+    def fork(self):
+        """Returns an equal set of its own."""
+        other = OffsetSet()
+        other._ranges = list(self._ranges)
+        return other
+
     @property
     def total(self):
         return total(self._ranges)

@@ -77,6 +77,18 @@ class Receiver:
         others = [pair for pair in ranges[:MOST_RANGES] if pair not in recent]
         return [*recent, *others][:MOST_RANGES]
 
+    def fork(self):
+        """Returns an equal receiver that goes on alone."""
+        other = Receiver(self.room)
+        other.nxt = self.nxt
+        other.edge = self.edge
+        other.end = self.end
+        other.recent = self.recent
+        other._ready = list(self._ready)
+        other._held = dict(self._held)
+        other._held_offsets = self._held_offsets.fork()
+        return other
+
     def _hold(self, piece):
         first = piece.first_octet
         start = max(first, self.nxt)

@@ -124,6 +124,22 @@ class Sender:
         self.lost = self.nxt
         self.recovery = self.nxt
 
+    def fork(self):
+        """Returns an equal sender that goes on alone."""
+        other = Sender(self.room)
+        other.una = self.una
+        other.nxt = self.nxt
+        other.written = self.written
+        other.finished = self.finished
+        other.edge = self.edge
+        other.recovery = self.recovery
+        other.resend = self.resend
+        other.lost = self.lost
+        other.repeated = self.repeated
+        other._queue = list(self._queue)
+        other._sacked = self._sacked.fork()
+        return other
+
     def _loss_end(self, mss):
         if self.recovery is None:
             return 0

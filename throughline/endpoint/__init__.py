@@ -1,0 +1,1 @@
+"""One end of a connection."""
