@@ -22,6 +22,9 @@ FUNCTIONS = {
     "throughline.pace.cubic": ["curve(mss, origin, turning, at)", "turning_time(mss, depth)"],
     "throughline.endpoint.phases": ["open_phase(*, finished, answered, theirs)",
                                     "next_phase(phase, *, opened, finished, answered, theirs)"],
+    "throughline.net.seeds": ["next_seed(seed)", "draw(seed, below)"],
+    "throughline.net.rules": ["format_rule(rule)"],
+    "throughline.net.scripts": ["parse_script(text)"],
 }
 # For each class: its parameters, its methods and its properties.
 CLASSES = {
@@ -70,6 +73,30 @@ CLASSES = {
     "throughline.host.socket.Socket": (
         "(count, port, peer, peer_port, endpoint, *, listened=False)",
         ["is_for(segment, sender)", "learn(segment)", "to_segment(piece)", "to_piece(segment)"], ["first"]),
+    "throughline.host.host.Host": (
+        "(address, options)",
+        ["connect(port, peer, peer_port)", "listen(port, *, backlog=8)", "unlisten(port)", "accept(port)",
+         "write(socket, octets)", "read(socket, count)", "finish(socket)", "abort(socket)", "release(socket)",
+         "receive(packet)", "tick(now)", "take()", "restart()", "peer_of(socket)", "status(socket)", "find(count)",
+         "fork()"],
+        ["sockets"]),
+    "throughline.net.rules.Rule": (
+        "(fault, *, amount=0, until=0, sender=None, target=None, ticks=None, nth=None, chance=None)",
+        ["considers(sender, target, birth)", "__eq__(other)"], []),
+    "throughline.net.faults.Verdict": (
+        "(*, lost=False, marked=False, copies=0, delay=1)", ["__eq__(other)"], ["arrivals"]),
+    "throughline.net.faults.Faults": ("(rules, *, seed)", ["judge(sender, target, birth)"], []),
+    "throughline.net.flights.Flight": ("(number, birth, packet)", ["__eq__(other)"], []),
+    "throughline.net.flights.Flights": (
+        "(life)",
+        ["__len__()", "__iter__()", "send(packet, now)", "at(i)", "take(i)", "copy_of(i)", "mark(i)", "expire(now)",
+         "find(number)"],
+        []),
+    "throughline.net.ledger.Ledger": (
+        "()",
+        ["note_write(host, socket, octets)", "note_read(host, socket, octets)", "note_finish(host, socket)",
+         "written(host, socket)", "was_read(host, socket)", "has_finished(host, socket)", "__iter__()"],
+        []),
 }
 
 

@@ -14,6 +14,10 @@ class Packet:
         """Returns an equal packet that is marked."""
         return Packet(self.sender, self.target, self.octets, marked=True)
 
+    def fork(self):
+        """Returns an equal packet with octets of its own."""
+        return Packet(self.sender, self.target, self.octets, marked=self.marked)
+
     def __eq__(self, other):
         if not isinstance(other, Packet):
             return False

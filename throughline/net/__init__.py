@@ -1,0 +1,1 @@
+"""Nets of hosts, and what happens to the packets between them."""
