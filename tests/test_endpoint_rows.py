@@ -179,7 +179,8 @@ class Model:
         cut = self.cut and len(piece.data) > 0
         self.cut = self.cut and not cut
         self.ack_at, self.late = None, 0
-        return Piece(piece.start, data=piece.data, syn=piece.syn, fin=piece.fin, ack=None if quiet else self.receiver.nxt,
+        return Piece(piece.start, data=piece.data, syn=piece.syn, fin=piece.fin,
+                     ack=None if quiet else self.receiver.nxt,
                      window=self.opts.room if quiet else self.receiver.advertise(self.mss),
                      ranges=self.receiver.held_ranges() if self.selective else [], marked=self.marked, cut=cut,
                      stamp=(now % CIRCLE, self.stamp))
@@ -233,10 +234,10 @@ class Pair:
 class RowsTest(unittest.TestCase):
     def play(self, seed):
         draws = random.Random(seed)
-        opts = options(mss=draws.choice([8, 20, 100]), room=draws.choice([200, 333, 1000]), pace=draws.choice([5, 90, 5000]),
-                       ack_delay=draws.choice([0, 3, 9]), keep_alive=draws.choice([0, 15, 60]),
-                       nagle=draws.random() < 0.5, control=draws.choice(["reno", "cubic"]), tries=draws.choice([1, 2, 6]),
-                       life=draws.choice([1, 30]))
+        opts = options(mss=draws.choice([8, 20, 100]), room=draws.choice([200, 333, 1000]),
+                       pace=draws.choice([5, 90, 5000]), ack_delay=draws.choice([0, 3, 9]), keep_alive=draws.choice([0, 15, 60]),
+                       nagle=draws.random() < 0.5, control=draws.choice(["reno", "cubic"]),
+                       tries=draws.choice([1, 2, 6]), life=draws.choice([1, 30]))
         now = draws.choice([0, CIRCLE - 100])
         pairs = [Pair(self, opts, now), None]
         under_way, reached = [], set()

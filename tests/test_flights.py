@@ -101,7 +101,8 @@ class FlightsTest(unittest.TestCase):
     def test_a_mark(self):
         flights = sent(3)
         self.assertEqual(flights.mark(1), Flight(1, 1, packet(1, True)))
-        self.assertEqual(list(flights), [Flight(0, 0, packet(0)), Flight(1, 1, packet(1, True)), Flight(2, 2, packet(2))])
+        self.assertEqual(list(flights),
+                         [Flight(0, 0, packet(0)), Flight(1, 1, packet(1, True)), Flight(2, 2, packet(2))])
         flights.mark(1)
         self.assertEqual(flights.at(1), Flight(1, 1, packet(1, True)))
 

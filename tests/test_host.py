@@ -214,7 +214,7 @@ class AcceptTest(HostCase):
         self.assertEqual((two.status(1)["phase"], two.accept(80)), ("close wait", 1))
 
     def test_not_one_that_was_connected(self):
-        one, two = self.connections(1)
+        one, _ = self.connections(1)
         self.assertEqual((one.status(1)["phase"], one.accept(1)), ("established", None))
 
     def test_behind_unlisten(self):
@@ -301,7 +301,7 @@ class WriteAndReadTest(HostCase):
 
 class FinishAndAbortTest(HostCase):
     def test_finish(self):
-        one, two = joined()
+        one, _ = joined()
         self.assertIs(one.finish(1), True)
         segment, = segments(one.take())
         self.assertTrue(segment.fin)
@@ -328,7 +328,7 @@ class FinishAndAbortTest(HostCase):
         self.refused(ConnectionEnded, other, "finish", 1)
 
     def test_abort(self):
-        one, two = joined()
+        one, _ = joined()
         self.assertIs(one.abort(1), True)
         segment, = segments(one.take())
         self.assertTrue(segment.reset)
@@ -556,7 +556,7 @@ class StatusTest(HostCase):
         self.check(two, 1, writable=0)
 
     def test_the_window_and_the_timeout(self):
-        one, two = joined()
+        one, _ = joined()
         one.find(1).endpoint.control.cwnd = 77
         one.find(1).endpoint.trip.rto = 66
         self.check(one, 1, window=77, timeout=66)
@@ -641,7 +641,7 @@ class ForkTest(HostCase):
         self.assertEqual(other.take(), [kept])
 
     def test_a_fork_goes_on_in_the_same_way(self):
-        one, two = joined()
+        one, _ = joined()
         one.write(1, [1, 2, 3])
         one.listen(9, backlog=2)
         one.connect(75, 2, 80)

@@ -105,8 +105,8 @@ class ListenerTest(PacketsCase):
         one.tick(7)
         segment = self.answer(one, packet(syn()))
         socket = one.find(1)
-        self.assertEqual((socket.count, socket.port, socket.peer, socket.peer_port, socket.peer_count, socket.peer_first,
-                          socket.peer_shift, socket.listened, socket.accepted),
+        self.assertEqual((socket.count, socket.port, socket.peer, socket.peer_port, socket.peer_count,
+                          socket.peer_first, socket.peer_shift, socket.listened, socket.accepted),
                          (1, 80, 9, 5000, 40, 1000, 3, True, False))
         endpoint = socket.endpoint
         self.assertEqual((endpoint.phase, endpoint.mss, endpoint.selective, endpoint.stamp, endpoint.since,
@@ -128,7 +128,8 @@ class ListenerTest(PacketsCase):
     def test_what_is_left_aside(self):
         plain, full = listening(), listening()
         plain.receive(packet(syn()))
-        full.receive(packet(syn(data=[1, 2, 3], fin=True, window=5, ranges=[(1, 2)], marked=True, cut=True), marked=True))
+        more = syn(data=[1, 2, 3], fin=True, window=5, ranges=[(1, 2)], marked=True, cut=True)
+        full.receive(packet(more, marked=True))
         self.assertEqual(host_state(full), host_state(plain))
         endpoint = full.find(1).endpoint
         self.assertEqual((endpoint.receiver.nxt, endpoint.receiver.end, endpoint.sender.edge, endpoint.marked,
@@ -356,9 +357,11 @@ class RefusalTest(PacketsCase):
         self.check(Segment(5000, 80, seq=1000, count=0, echo=0, ack=5), seq=5, ack=1000, count=0)
 
     def test_with_syn_data_and_end(self):
-        for more, size in (({"syn": True}, 1), ({"fin": True}, 1), ({"data": [1, 2, 3]}, 3), ({"syn": True, "fin": True}, 2),
+        for more, size in (({"syn": True}, 1), ({"fin": True}, 1), ({"data": [1, 2, 3]}, 3),
+                           ({"syn": True, "fin": True}, 2),
                            ({"syn": True, "data": [1], "fin": True}, 3)):
-            self.check(Segment(5000, 80, seq=1000, count=40, ack=77, echo=66, **more), seq=77, ack=1000 + size, count=66)
+            self.check(Segment(5000, 80, seq=1000, count=40, ack=77, echo=66, **more), seq=77, ack=1000 + size,
+                       count=66)
             self.check(Segment(5000, 80, seq=1000, count=40, **more), seq=0, ack=1000 + size, count=0)
 
     def test_the_ack_wraps(self):

@@ -107,8 +107,10 @@ class TogetherTest(unittest.TestCase):
 
     def check_ended(self, network, *sockets, cause="done"):
         """Both have ended after a bounded number of ticks."""
-        for _ in range(network.hosts[0].options.resting + 2000):
+        for _ in range(3 * network.hosts[0].options.resting + 5000):
             network.tick()
+            if all(one.status(count)["phase"] == "ended" for one, count in sockets):
+                break
         for one, count in sockets:
             self.assertEqual((one.status(count)["phase"], one.status(count)["cause"]), ("ended", cause))
             one.release(count)

@@ -180,8 +180,8 @@ class ScriptTest(unittest.TestCase):
 
     def test_random_texts(self):
         draws = random.Random(101)
-        words = ["from", "to", "ticks", "nth", "chance", "lose", "mark", "copy", "delay", "1", "3", "0", "1..4", ";", "\n",
-                 "# x", "70000"]
+        words = ["from", "to", "ticks", "nth", "chance", "lose", "mark", "copy", "delay", "1", "3", "0", "1..4", ";",
+                 "\n", "# x", "70000"]
         good = 0
         for _ in range(3000):
             text = " ".join(draws.choice(words) for _ in range(draws.randrange(1, 9)))

@@ -349,8 +349,8 @@ class AgreedValuesTest(unittest.TestCase):
 class TakeTest(unittest.TestCase):
     def test_a_syn_gives_the_agreed_values(self):
         socket = made(in_phase("syn sent"), learnt=False)
-        taken = socket.take_segment(segment(seq=1000, syn=True, ack=socket.first + 1, mss=64, ranges_known=True, scale=2,
-                                            window=500), 20, marked=False)
+        taken = socket.take_segment(segment(seq=1000, syn=True, ack=socket.first + 1, mss=64, ranges_known=True,
+                                            scale=2, window=500), 20, marked=False)
         self.assertIs(taken, True)
         endpoint = socket.endpoint
         self.assertEqual((endpoint.phase, endpoint.mss, endpoint.selective, endpoint.sender.edge, endpoint.since),
