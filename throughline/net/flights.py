@@ -71,6 +71,13 @@ class Flights:
                 return at
         return None
 
+    def fork(self):
+        """Returns equal flights that go on alone."""
+        other = Flights(self._life)
+        other.next_number = self.next_number
+        other._flights = [Flight(flight.number, flight.birth, flight.packet) for flight in self._flights]
+        return other
+
     def __len__(self):
         return len(self._flights)
 

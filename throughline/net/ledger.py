@@ -35,5 +35,14 @@ class Ledger:
     def has_finished(self, host, socket):
         return (host, socket) in self._finished
 
+    def fork(self):
+        """Returns an equal ledger that goes on alone."""
+        other = Ledger()
+        other._noted = {key: True for key in self._noted}
+        other._written = {key: list(self._written[key]) for key in self._written}
+        other._was_read = {key: list(self._was_read[key]) for key in self._was_read}
+        other._finished = {key: True for key in self._finished}
+        return other
+
     def __iter__(self):
         return iter(self._noted)

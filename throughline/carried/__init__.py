@@ -1,0 +1,1 @@
+"""Many streams, or messages, over one stream (part 9)."""
