@@ -25,6 +25,10 @@ FUNCTIONS = {
     "throughline.net.seeds": ["next_seed(seed)", "draw(seed, below)"],
     "throughline.net.rules": ["format_rule(rule)"],
     "throughline.net.scripts": ["parse_script(text)"],
+    "throughline.net.deeds": ["check_deed(deed)"],
+    "throughline.net.runs": ["run(net, script, *, seed, ticks)"],
+    "throughline.carried.frames": ["write_frame(frame)", "first_frame(octets)"],
+    "throughline.carried.messages": ["frame_message(octets)"],
 }
 # For each class: its parameters, its methods and its properties.
 CLASSES = {
@@ -97,6 +101,19 @@ CLASSES = {
         ["note_write(host, socket, octets)", "note_read(host, socket, octets)", "note_finish(host, socket)",
          "written(host, socket)", "was_read(host, socket)", "has_finished(host, socket)", "__iter__()"],
         []),
+    "throughline.net.records.Record": ("(tick, number, word, packet)", ["__eq__(other)"], []),
+    "throughline.net.net.Net": (
+        "(members)",
+        ["do(deed)", "history()", "fork()", "other_end(host, socket)", "written(host, socket)",
+         "was_read(host, socket)"],
+        []),
+    "throughline.carried.channels.Channels": (
+        "(*, first, window, most)",
+        ["__iter__()", "__len__()", "open_channel()", "accept()", "write(channel, octets)", "read(channel, count)",
+         "finish(channel)", "reset(channel, code)", "status(channel)", "take(count)", "receive(octets)", "fork()"],
+        []),
+    "throughline.carried.messages.Messages": ("()", ["feed(octets)"], ["pending"]),
+    "throughline.records.findings.Finding": ("(index, problem)", ["__eq__(other)"], []),
 }
 
 
@@ -141,6 +158,16 @@ class InterfaceTest(unittest.TestCase):
     def test_the_waits_are_a_generator(self):
         module = importlib.import_module("throughline.pace.round_trip")
         self.assertTrue(inspect.isgeneratorfunction(module.waits))
+
+    def test_the_history_is_a_generator(self):
+        self.assertTrue(inspect.isgeneratorfunction(importlib.import_module("throughline.net.net").Net.history))
+
+    def test_class_values(self):
+        for path, name, value in (("throughline.net.net.Net", "MOST_HOSTS", 8),
+                                  ("throughline.carried.channels.Channels", "MOST_CHANNELS", 100),
+                                  ("throughline.pace.control.Control", "GREATEST", 1073741824)):
+            place, _, kind = path.rpartition(".")
+            self.assertEqual(vars(getattr(importlib.import_module(place), kind))[name], value)
 
 
 if __name__ == "__main__":

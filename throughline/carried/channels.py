@@ -130,7 +130,7 @@ class Channels:
         other.failure = self.failure
         other._next_here = self._next_here
         other._next_there = self._next_there
-        other._channels = {number: self._channels[number].fork() for number in self._numbers}
+        other._channels = {number: self._channels[number].fork() for number in self._channels}
         other._numbers = list(self._numbers)
         other._turns = list(self._turns)
         other._offered = list(self._offered)

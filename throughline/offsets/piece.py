@@ -33,8 +33,8 @@ class Piece:
     def __eq__(self, other):
         if not isinstance(other, Piece):
             return False
-        return self._fields() == other._fields()
+        return self.reset == other.reset and self._fields() == other._fields()
 
     def _fields(self):
-        return (self.start, self.data, self.syn, self.fin, self.reset, self.ack, self.window, self.ranges,
-                self.marked, self.cut, self.stamp)
+        return (self.start, self.data, self.syn, self.fin, self.ack, self.window, self.ranges, self.marked, self.cut,
+                self.stamp)

@@ -33,9 +33,8 @@ class Segment:
     def __eq__(self, other):
         if not isinstance(other, Segment):
             return False
-        return self._parts() == other._parts()
+        return self.reset == other.reset and self._parts() == other._parts()
 
     def _parts(self):
-        return (self.source, self.target, self.seq, self.count, self.echo, self.ack, self.syn, self.fin, self.reset,
-                self.marked, self.cut, self.window, self.mss, self.scale, self.ranges_known, self.ranges,
-                self.stamp, self.data)
+        return (self.source, self.target, self.seq, self.count, self.echo, self.ack, self.syn, self.fin, self.marked,
+                self.cut, self.window, self.mss, self.scale, self.ranges_known, self.ranges, self.stamp, self.data)
