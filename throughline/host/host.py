@@ -197,10 +197,26 @@ class Host:
         other = Host(self.address, self.options)
         other.counter = self.counter
         other.now = self.now
-        other._listeners = dict(self._listeners)
-        other._sockets = [socket.fork() for socket in self._sockets]
-        other._packets = [packet.fork() for packet in self._packets]
+        other.resume(self._listeners, [socket.fork() for socket in self._sockets], self._packets)
         return other
+
+    def listeners(self):
+        """Returns the pairs of a port and a backlog, in the order in which the listeners were created."""
+        return list(self._listeners.items())
+
+    def created(self):
+        """Returns the sockets in the order in which they were created."""
+        return list(self._sockets)
+
+    def untaken(self):
+        """Returns the packets that were not taken, and does not take them."""
+        return [packet.fork() for packet in self._packets]
+
+    def resume(self, listeners, sockets, packets):
+        """Goes on with the listeners, as a dict of backlogs by ports, the sockets and the packets of another host."""
+        self._listeners = dict(listeners)
+        self._sockets = list(sockets)
+        self._packets = [packet.fork() for packet in packets]
 
     def _known(self, count):
         socket = self.find(count)

@@ -1,6 +1,17 @@
 """Sets of offsets, given as lists of ranges (points 22 to 26)."""
 
 
+def ranges_of(offsets):
+    """Returns the ranges of the set with these offsets, which are ascending."""
+    ranges = []
+    for offset in offsets:
+        if len(ranges) > 0 and ranges[-1][1] == offset:
+            ranges[-1] = (ranges[-1][0], offset + 1)
+        else:
+            ranges.append((offset, offset + 1))
+    return ranges
+
+
 def add_range(ranges, start, stop):
     """Returns the ranges of the set with the offsets from start to stop - 1 added."""
     if stop <= start:

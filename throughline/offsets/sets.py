@@ -30,10 +30,14 @@ class OffsetSet:
     def loss_edge(self, amount):
         return loss_edge(self._ranges, amount)
 
+    def resume(self, ranges):
+        """Goes on with these ranges, as they are."""
+        self._ranges = list(ranges)
+
     def fork(self):
         """Returns an equal set of its own."""
         other = OffsetSet()
-        other._ranges = list(self._ranges)
+        other.resume(self._ranges)
         return other
 
     @property

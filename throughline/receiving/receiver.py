@@ -1,5 +1,6 @@
 """The receiver: one direction of a connection at the end that reads (part 4)."""
 
+from throughline.offsets.ranges import ranges_of
 from throughline.offsets.sets import OffsetSet
 
 MOST_RANGES = 3
@@ -76,6 +77,21 @@ class Receiver:
         recent = [(start, stop) for start, stop in ranges if start <= self.recent < stop]
         others = [pair for pair in ranges[:MOST_RANGES] if pair not in recent]
         return [*recent, *others][:MOST_RANGES]
+
+    def ready_octets(self):
+        """Returns the octets that can be read."""
+        return list(self._ready)
+
+    def held_octets(self):
+        """Returns the octets that are held, as pairs with their offsets, which are ascending."""
+        return [(offset, self._held[offset]) for offset in sorted(self._held)]
+
+    def resume(self, ready, held):
+        """Goes on with the octets of another receiver; the offsets of those that are held are ascending."""
+        self._ready = list(ready)
+        self._held = {offset: octet for offset, octet in held}
+        self._held_offsets = OffsetSet()
+        self._held_offsets.resume(ranges_of([offset for offset, _ in held]))
 
     def fork(self):
         """Returns an equal receiver that goes on alone."""

@@ -124,6 +124,15 @@ class Sender:
         self.lost = self.nxt
         self.recovery = self.nxt
 
+    def queued(self):
+        """Returns the octets of the queue."""
+        return list(self._queue)
+
+    def resume(self, queue, sacked):
+        """Goes on with the octets and the ranges of another sender, as they are."""
+        self._queue = list(queue)
+        self._sacked.resume(sacked)
+
     def fork(self):
         """Returns an equal sender that goes on alone."""
         other = Sender(self.room)
@@ -136,8 +145,7 @@ class Sender:
         other.resend = self.resend
         other.lost = self.lost
         other.repeated = self.repeated
-        other._queue = list(self._queue)
-        other._sacked = self._sacked.fork()
+        other.resume(self._queue, list(self._sacked))
         return other
 
     def _loss_end(self, mss):
