@@ -29,6 +29,15 @@ FUNCTIONS = {
     "throughline.net.runs": ["run(net, script, *, seed, ticks)"],
     "throughline.carried.frames": ["write_frame(frame)", "first_frame(octets)"],
     "throughline.carried.messages": ["frame_message(octets)"],
+    "throughline.records.packets": ["judge_packets(records, *, life)"],
+    "throughline.records.judge": ["judge(records, *, life)", "streams(records)"],
+    "throughline.records.writing": ["write_record(record)", "write_records(records)"],
+    "throughline.records.reading": ["record_lines(text)", "read_record(line, *, number=1)", "read_records(text)"],
+    "throughline.host.codes": ["write_sender(sender)", "write_receiver(receiver)", "write_trip(trip)",
+                               "write_control(control)", "read_sender(reader, room)", "read_receiver(reader, room)",
+                               "read_trip(reader, options)", "read_control(reader, options)"],
+    "throughline.host.saved": ["save_host(host)", "load_host(text)"],
+    "throughline.records.analysis": ["analyse(records)"],
 }
 # For each class: its parameters, its methods and its properties.
 CLASSES = {
@@ -114,6 +123,8 @@ CLASSES = {
         []),
     "throughline.carried.messages.Messages": ("()", ["feed(octets)"], ["pending"]),
     "throughline.records.findings.Finding": ("(index, problem)", ["__eq__(other)"], []),
+    "throughline.records.directions.Direction": ("(sender, source, target, target_port, count)", [], ["arrived"]),
+    "throughline.host.codes.CodeReader": ("(numbers, line)", ["number()", "finish()"], []),
 }
 
 
@@ -155,12 +166,12 @@ class InterfaceTest(unittest.TestCase):
         kind = importlib.import_module("throughline.endpoint.endpoint").Endpoint
         self.assertIsInstance(vars(kind)["answering"], classmethod)
 
-    def test_the_waits_are_a_generator(self):
-        module = importlib.import_module("throughline.pace.round_trip")
-        self.assertTrue(inspect.isgeneratorfunction(module.waits))
-
-    def test_the_history_is_a_generator(self):
-        self.assertTrue(inspect.isgeneratorfunction(importlib.import_module("throughline.net.net").Net.history))
+    def test_generators(self):
+        waits = importlib.import_module("throughline.pace.round_trip").waits
+        history = importlib.import_module("throughline.net.net").Net.history
+        record_lines = importlib.import_module("throughline.records.reading").record_lines
+        for function in (waits, history, record_lines):
+            self.assertTrue(inspect.isgeneratorfunction(function))
 
     def test_class_values(self):
         for path, name, value in (("throughline.net.net.Net", "MOST_HOSTS", 8),
