@@ -249,6 +249,18 @@ class FramesThatGoTest(unittest.TestCase):
         self.assertEqual(said(given), [("open", 5), ("permit", 6, 20), ("permit", 5, 20), ("octets", 2, [2]),
                                        ("octets", 4, [4]), ("octets", 1, [1]), ("octets", 6, [6]), ("end", 5)])
 
+    def test_an_end_moves_its_channel(self):
+        given = side(True, window=4, most=4)
+        for _ in range(3):
+            given.open_channel()
+        said(given)
+        given.finish(1)
+        self.assertEqual(said(given), [("end", 1)])
+        for number in (1, 3, 5):
+            tell(given, ("octets", number, [0, 0]))
+            given.read(number, 2)
+        self.assertEqual(said(given), [("permit", 3, 2), ("permit", 5, 2), ("permit", 1, 2)])
+
     def test_opens_resets_and_permits_do_not_move_a_channel(self):
         given = side(True, window=4, most=1)
         for _ in range(3):
@@ -596,6 +608,16 @@ class ForkTest(unittest.TestCase):
         self.assertEqual(frozen(other), frozen(given))
         for first in (True, False):
             self.assertEqual(frozen(side(first).fork()), frozen(side(first)))
+
+    def test_what_was_told_is_not_told_again(self):
+        given = opened()
+        given.finish(1)
+        given.open_channel()
+        given.reset(3, 4)
+        self.assertEqual(said(given), [("open", 3), ("reset", 3, 4), ("end", 1)])
+        other = given.fork()
+        self.assertEqual(frozen(other), frozen(given))
+        self.assertEqual(said(other), [])
 
     def test_later_calls_on_either_do_not_change_the_other(self):
         for at, change in enumerate(self.changes()):

@@ -156,6 +156,32 @@ class SentTest(unittest.TestCase):
         self.assertIn("octets before these were not sent", [finding.problem for finding in judge(talk.records, life=9)])
 
 
+class NearTest(unittest.TestCase):
+    """Numbers are read near the number of octets sent plus 1: half a circle behind that, they are no offsets."""
+
+    HALF = 2147483648
+
+    def test_the_start(self):
+        for octets in (0, 1, 10):
+            for more, found in ((-1, []), (0, ["octets before these were not sent"])):
+                talk = Talk().open(window=1000)
+                if octets:
+                    talk.a(seq=1, ack=1, data=[1] * octets)
+                talk.a(seq=octets + 1 + self.HALF + more, ack=1)
+                self.assertEqual([finding.problem for finding in judge(talk.records, life=9)], found)
+
+    def test_what_is_acknowledged(self):
+        for octets in (0, 1, 10):
+            for more, is_read in ((-1, True), (0, False)):
+                talk = Talk().open(window=1000)
+                if octets:
+                    talk.a(seq=1, ack=1, data=[1] * octets)
+                ack = octets + 1 + self.HALF + more
+                talk.both("b", seq=1, ack=ack)
+                self.assertEqual(of_b(talk).told, ack + 1000 if is_read else 1001)
+                self.assertEqual(of_a(talk).edge, ack + 1000 if is_read else 1001)
+
+
 class DeliveredTest(unittest.TestCase):
     def test_the_offsets_of_a_segment(self):
         talk = Talk().open()
@@ -246,7 +272,7 @@ class EdgesTest(unittest.TestCase):
     def test_units(self):
         for scale_a, scale_b, unit_a, unit_b in [
             (None, None, 1, 1), (None, 3, 1, 1), (3, None, 1, 1), (0, 0, 1, 1), (0, 3, 1, 8), (3, 0, 8, 1),
-            (2, 5, 4, 32), (14, 14, 16384, 16384), (14, 1, 16384, 2),
+            (2, 5, 4, 32), (14, 14, 16384, 16384), (14, 1, 16384, 2), *[(0, k, 1, 2 ** k) for k in range(15)],
         ]:
             with self.subTest((scale_a, scale_b)):
                 talk = Talk().both("a", syn=True, echo=None, scale=scale_a, window=9)

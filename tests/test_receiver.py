@@ -428,6 +428,14 @@ class RangesTest(unittest.TestCase):
         receiver.arrive(part(1, 4))
         self.assertEqual((receiver.held_ranges(), receiver.recent), ([(20, 25), (30, 35)], 5))
 
+    def test_a_range_stops_ahead_of_its_second_number(self):
+        receiver = started()
+        receiver.arrive(part(10, 5))
+        receiver.arrive(part(30, 5))
+        for recent, first in ((29, (10, 15)), (30, (30, 35)), (34, (30, 35)), (35, (10, 15))):
+            receiver.recent = recent
+            self.assertEqual(receiver.held_ranges()[0], first)
+
     def test_more_is_held_than_before_although_some_became_ready(self):
         receiver = started()
         receiver.arrive(part(1, 5))

@@ -6,8 +6,8 @@ import unittest
 from tests.frozen import frozen
 from tests.nets import deeds, deliver_all, flights, joined_net, net, words
 from throughline.errors import InvalidAmount, InvalidScript
-from throughline.net.faults import Faults
-from throughline.net.runs import run
+from throughline.net.faults import Faults, Verdict
+from throughline.net.runs import Player, run
 from throughline.net.scripts import parse_script
 
 
@@ -180,6 +180,30 @@ class DueTest(unittest.TestCase):
         given = lone_net(2)
         self.assertEqual(of_run(given, "from 2 lose", ticks=1),
                          [("tick",), ("deliver", 0), ("lose", 1), ("deliver", 0), ("lose", 0)])
+
+    def test_numbers_that_become_due_by_a_delivery_of_the_same_tick(self):
+        class EarlyAnswers:
+            """No script has delays below 1; here, answers are due at the tick of their birth, or earlier."""
+
+            def __init__(self, delay):
+                self.delay = delay
+
+            def judge(self, sender, target, birth):
+                return Verdict(delay=self.delay if sender == 2 else 1)
+
+        # The first answer is due behind the second packet of the host 0 at the same tick, or at a tick ahead of it.
+        for delay, numbers in ((0, [0, 1, 2, 3]), (-1, [0, 2, 1, 3])):
+            given = joined_net(ack_delay=0)
+            given.do(("write", 0, 1, [1]))
+            given.do(("write", 0, 1, [2]))
+            first, before = given.flights.at(0).number, len(given.records)
+            player = Player(given, EarlyAnswers(delay))
+            player.decide_all()
+            player.play_tick()
+            delivered = [record for record in given.records[before:] if record.word == "delivered"]
+            self.assertEqual([(record.tick, record.number - first) for record in delivered],
+                             [(1, number) for number in numbers])
+            self.assertEqual((player.deeds, len(given.flights)), (5, 0))
 
     def test_a_number_whose_flights_have_expired(self):
         given = lone_net(life=3)
