@@ -35,6 +35,9 @@ setdefault split splitlines startswith strip update upper values zfill bit_lengt
 center expandtabs removeprefix removesuffix rindex isascii isdecimal isnumeric istitle isidentifier isprintable translate
 maketrans encode decode hex fromhex to_bytes from_bytes sort add discard format""".split())
 
+BARRED_ATTRIBUTES = set("""items keys values pop update append clear extend insert remove reverse setdefault sort args encode
+decode hex fromhex format as_integer_ratio bit_count conjugate from_bytes is_integer to_bytes""".split())
+
 
 def package_files(package):
     for folder, folders, names in sorted(os.walk(package)):
@@ -116,6 +119,8 @@ def node_faults(tree):
         elif isinstance(node, ast.Attribute):
             if node.attr in NOWHERE or node.attr in ("format_map",):
                 yield line, f"L17 the attribute {node.attr}"
+            if isinstance(node.ctx, ast.Store) and node.attr in BARRED_ATTRIBUTES:
+                yield line, f"L26 the attribute {node.attr}"
         elif isinstance(node, ast.Compare):
             for sign, side in zip(node.ops, node.comparators):
                 if isinstance(sign, (ast.Is, ast.IsNot)) and not (

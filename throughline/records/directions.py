@@ -67,7 +67,8 @@ class Reading:
         if start is not None:
             self.direction.delivered.include(start, start + self.segment.size)
         if self.acknowledged is not None:
-            self.opposite.edge = max(self.opposite.edge, self.edge)
+            opposite = self.opposite
+            opposite.edge = max(opposite.edge, self.edge)
 
 
 class Directions:
